@@ -1,0 +1,1 @@
+"""Staywalk: walks through a table that others change meanwhile."""
