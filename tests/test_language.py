@@ -32,6 +32,15 @@ WHOLE_WORDS = re.compile(
 )
 PARTS_OF_WORDS = re.compile(r"dataclass|overload|contextmanager")
 
+# The methods of Python's own values that may be called, and those of their names that a value may have.
+PYTHONS_METHODS = set("""
+    append clear copy count endswith extend find get index insert isalnum isalpha isdigit islower isspace
+    isupper items join keys ljust lower lstrip partition pop remove replace reverse rfind rjust rpartition
+    rsplit rstrip setdefault split splitlines startswith strip update upper values zfill bit_length
+""".split())
+NAMES_OF_VALUES = set("count index title find get join lower upper split strip copy add".split())
+PYTHONS_NAMES = {name for kind in (str, int, list, tuple, dict, set, frozenset, bytes, bytearray) for name in dir(kind)}
+
 
 def files():
     return [path for path in sorted(PACKAGE.rglob("*")) if "__pycache__" not in path.parts]
@@ -56,6 +65,28 @@ def names_in(node):
     if isinstance(node, (ast.FunctionDef, ast.ClassDef)):
         return [node.name]
     return []
+
+
+def classes():
+    return [node for path in files() for node in nodes(path) if isinstance(node, ast.ClassDef)]
+
+
+def methods():
+    """The names of all methods in the package."""
+    return {node.name for one in classes() for node in one.body if isinstance(node, ast.FunctionDef)}
+
+
+def fields():
+    """The names of all values that are given to an object in the package."""
+    found = [node for path in files() for node in nodes(path) if isinstance(node, ast.Attribute)]
+    return {node.attr for node in found if isinstance(node.ctx, ast.Store)}
+
+
+def bound_within(function):
+    """The parameters and the locals of a function."""
+    found = [node.arg for node in ast.walk(function) if isinstance(node, ast.arg)]
+    names = [node for node in ast.walk(function) if isinstance(node, ast.Name)]
+    return found + [node.id for node in names if isinstance(node.ctx, ast.Store)]
 
 
 class Files(unittest.TestCase):
@@ -115,6 +146,66 @@ class Code(unittest.TestCase):
                     self.assertIsInstance(node.ctx, ast.Load, (path, node.id))
                 if isinstance(node, ast.arg):
                     self.assertFalse(hasattr(builtins, node.arg), (path, node.arg))
+
+    def test_forms_of_statements(self):
+        for path in files():
+            for node in nodes(path):
+                if isinstance(node, ast.Assign):
+                    self.assertEqual(len(node.targets), 1, (path, node.lineno))
+                if isinstance(node, (ast.For, ast.While)):
+                    self.assertEqual(node.orelse, [], (path, node.lineno))
+                if isinstance(node, ast.Try):
+                    self.assertEqual(node.finalbody, [], (path, node.lineno))
+                if isinstance(node, ast.ListComp):
+                    self.assertEqual(len(node.generators), 1, (path, node.lineno))
+                    self.assertLessEqual(len(node.generators[0].ifs), 1, (path, node.lineno))
+
+    def test_parameters_are_plain(self):
+        for path in files():
+            for node in nodes(path):
+                if isinstance(node, ast.arguments):
+                    others = (node.vararg, node.kwarg, node.kwonlyargs, node.posonlyargs)
+                    self.assertEqual(others, (None, None, [], []), path)
+                    for default in node.defaults:
+                        self.assertIsInstance(default, ast.Constant, path)
+
+    def test_is_stands_beside_none_and_the_truths(self):
+        for path in files():
+            for node in nodes(path):
+                if isinstance(node, ast.Compare) and isinstance(node.ops[0], (ast.Is, ast.IsNot)):
+                    sides = [side for side in [node.left] + node.comparators if isinstance(side, ast.Constant)]
+                    self.assertTrue(any(side.value is None or isinstance(side.value, bool) for side in sides), (path, node.lineno))
+
+    def test_locals_are_not_called_like_a_class_or_an_import(self):
+        for path in files():
+            tree = ast.parse(source(path))
+            taken = {node.name for node in tree.body if isinstance(node, ast.ClassDef)}
+            for node in tree.body:
+                if isinstance(node, ast.ImportFrom):
+                    taken |= {name.name for name in node.names}
+            for node in ast.walk(tree):
+                if isinstance(node, ast.FunctionDef):
+                    self.assertEqual(taken & set(bound_within(node)), set(), (path, node.name))
+
+    def test_no_name_is_a_method_and_a_value(self):
+        self.assertEqual(methods() & fields(), set())
+
+    def test_names_of_methods_and_values(self):
+        free = PYTHONS_METHODS | {"add", "discard"}
+        self.assertEqual((methods() & PYTHONS_NAMES) - free - DUNDER, set())
+        self.assertEqual((fields() & PYTHONS_NAMES) - NAMES_OF_VALUES, set())
+
+    def test_no_method_stands_twice_in_a_class(self):
+        for one in classes():
+            names = [node.name for node in one.body if isinstance(node, ast.FunctionDef)]
+            self.assertEqual(len(names), len(set(names)), one.name)
+
+    def test_methods_that_are_called(self):
+        known = methods() | PYTHONS_METHODS
+        for path in files():
+            for node in nodes(path):
+                if isinstance(node, ast.Call) and isinstance(node.func, ast.Attribute):
+                    self.assertIn(node.func.attr, known, (path, node.lineno))
 
     def test_no_decorators(self):
         for path in files():
