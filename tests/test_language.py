@@ -42,6 +42,12 @@ NAMES_OF_VALUES = set("count index title find get join lower upper split strip c
 PYTHONS_NAMES = {name for kind in (str, int, list, tuple, dict, set, frozenset, bytes, bytearray) for name in dir(kind)}
 
 
+# What is walked on the spot, and what may stand around it.
+WALKED_NAMES = {"zip", "enumerate", "reversed", "range"}
+WALKED_METHODS = {"items", "keys", "values"}
+WALKERS = {"list", "tuple", "dict", "sorted", "sum", "any", "all", "enumerate", "zip", "min", "max"}
+
+
 def files():
     return [path for path in sorted(PACKAGE.rglob("*")) if "__pycache__" not in path.parts]
 
@@ -89,6 +95,35 @@ def bound_within(function):
     return found + [node.id for node in names if isinstance(node.ctx, ast.Store)]
 
 
+def drawn_from(path):
+    """The modules of the package that a file imports from."""
+    return {node.module for node in nodes(path) if isinstance(node, ast.ImportFrom)}
+
+
+def called(node):
+    """The name or the method that a node calls; None where it calls none."""
+    if not isinstance(node, ast.Call):
+        return None
+    return node.func.attr if isinstance(node.func, ast.Attribute) else node.func.id
+
+
+def is_walked(node):
+    """Whether a node is a call whose answer is to be walked on the spot."""
+    if isinstance(node, ast.Call) and isinstance(node.func, ast.Attribute):
+        return node.func.attr in WALKED_METHODS
+    return called(node) in WALKED_NAMES
+
+
+def walks(node):
+    """What a node walks."""
+    if isinstance(node, (ast.For, ast.comprehension)):
+        return [node.iter]
+    if isinstance(node, ast.Call) and isinstance(node.func, ast.Name) and node.func.id in WALKERS:
+        alone = node.func.id in ("min", "max") and len(node.args) != 1
+        return [] if alone else node.args[:None if node.func.id == "zip" else 1]
+    return []
+
+
 class Files(unittest.TestCase):
 
     def test_only_plain_python_files(self):
@@ -131,6 +166,31 @@ class Code(unittest.TestCase):
                     self.assertEqual(node.level, 0, path)
                     self.assertRegex(node.module, r"^staywalk\.")
                     self.assertNotIn("*", [name.name for name in node.names], path)
+
+    def test_no_two_files_draw_from_one_another(self):
+        reach = {"staywalk." + path.stem: drawn_from(path) for path in files()}
+        for again in reach:
+            for name in reach:
+                reach[name] = reach[name].union(*[reach.get(other, set()) for other in reach[name]])
+        for name in reach:
+            self.assertNotIn(name, reach[name])
+
+    def test_walked_on_the_spot(self):
+        for path in files():
+            found = nodes(path)
+            spots = {id(one) for node in found for one in walks(node)}
+            for node in found:
+                if is_walked(node):
+                    self.assertIn(id(node), spots, (path, node.lineno))
+
+    def test_no_sets_and_no_lists_that_are_kept_at_the_top(self):
+        for path in files():
+            for node in nodes(path):
+                self.assertNotIsInstance(node, ast.Set, path)
+                self.assertNotIn(called(node), ("set", "frozenset"), path)
+            for node in ast.parse(source(path)).body:
+                if isinstance(node, ast.Assign):
+                    self.assertIsInstance(node.value, ast.Constant, path)
 
     def test_names(self):
         for path in files():
