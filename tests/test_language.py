@@ -6,6 +6,8 @@ import pathlib
 import re
 import unittest
 
+from staywalk import errors
+
 PACKAGE = pathlib.Path(__file__).resolve().parent.parent / "staywalk"
 
 BUILT_IN = set("""
@@ -41,6 +43,13 @@ PYTHONS_METHODS = set("""
 NAMES_OF_VALUES = set("count index title find get join lower upper split strip copy add".split())
 PYTHONS_NAMES = {name for kind in (str, int, list, tuple, dict, set, frozenset, bytes, bytearray) for name in dir(kind)}
 
+
+# Names that are used nowhere, or not as names.
+NO_NAMES = set("""
+    register mro elements open input version_info with_traceback add_note attrgetter breakpoint builtins compile
+    copyright credits delattr dir eval exec exit gc getattr globals hasattr help id importlib license locals
+    methodcaller os quit setattr super type vars sys chr format format_map
+""".split())
 
 # What is walked on the spot, and what may stand around it.
 WALKED_NAMES = {"zip", "enumerate", "reversed", "range"}
@@ -98,6 +107,30 @@ def bound_within(function):
 def drawn_from(path):
     """The modules of the package that a file imports from."""
     return {node.module for node in nodes(path) if isinstance(node, ast.ImportFrom)}
+
+
+def tops(path):
+    """The names that are given a value at a file's top, and these values."""
+    given = [node for node in ast.parse(source(path)).body if isinstance(node, ast.Assign)]
+    return {node.targets[0].id: node.value for node in given}
+
+
+def functions(path):
+    return {node.name for node in ast.parse(source(path)).body if isinstance(node, ast.FunctionDef)}
+
+
+def is_plain(value, defined):
+    """Whether a value may stand at a file's top: a list or a dict holds no list or dict itself."""
+    within = []
+    if isinstance(value, ast.Dict):
+        within = value.keys + value.values
+    if isinstance(value, (ast.List, ast.Tuple)):
+        within = value.elts
+    for one in within:
+        if isinstance(one, (ast.Dict, ast.List)) or not is_plain(one, defined):
+            return False
+    named = isinstance(value, ast.Name) and value.id in defined
+    return named or isinstance(value, (ast.Constant, ast.Dict, ast.List, ast.Tuple))
 
 
 def called(node):
@@ -188,9 +221,27 @@ class Code(unittest.TestCase):
             for node in nodes(path):
                 self.assertNotIsInstance(node, ast.Set, path)
                 self.assertNotIn(called(node), ("set", "frozenset"), path)
-            for node in ast.parse(source(path)).body:
-                if isinstance(node, ast.Assign):
-                    self.assertIsInstance(node.value, ast.Constant, path)
+            for name, value in tops(path).items():
+                self.assertTrue(is_plain(value, functions(path)), (path, name))
+
+    def test_a_dict_of_the_top_is_only_read(self):
+        for path in files():
+            kept = {name for name, value in tops(path).items() if isinstance(value, (ast.Dict, ast.List))}
+            found = nodes(path)
+            reads = {id(node.value) for node in found if isinstance(node, ast.Subscript) and isinstance(node.ctx, ast.Load)}
+            reads |= {id(side) for node in found if isinstance(node, ast.Compare) for side in node.comparators}
+            for node in found:
+                if isinstance(node, ast.Name) and node.id in kept and isinstance(node.ctx, ast.Load):
+                    self.assertIn(id(node), reads, (path, node.lineno))
+
+    def test_names_of_the_top_are_bound_once(self):
+        for path in files():
+            taken = set(tops(path)) | functions(path)
+            for node in nodes(path):
+                if isinstance(node, ast.FunctionDef):
+                    self.assertEqual(taken & set(bound_within(node)), set(), (path, node.name))
+            names = [node.targets[0].id for node in ast.parse(source(path)).body if isinstance(node, ast.Assign)]
+            self.assertEqual(len(names), len(set(names)), path)
 
     def test_names(self):
         for path in files():
@@ -266,6 +317,30 @@ class Code(unittest.TestCase):
             for node in nodes(path):
                 if isinstance(node, ast.Call) and isinstance(node.func, ast.Attribute):
                     self.assertIn(node.func.attr, known, (path, node.lineno))
+
+    def test_names_that_are_not_used(self):
+        for path in files():
+            for node in nodes(path):
+                self.assertEqual(NO_NAMES & set(names_in(node)), set(), (path, getattr(node, "lineno", None)))
+
+    def test_errors_are_the_programs_own(self):
+        own = {node.name for node in classes() if node.name in dir(errors)}
+        for path in files():
+            for node in nodes(path):
+                if isinstance(node, ast.ExceptHandler):
+                    taken = node.type.elts if isinstance(node.type, ast.Tuple) else [node.type]
+                    self.assertLessEqual({one.id for one in taken}, own, (path, node.lineno))
+                if isinstance(node, ast.Raise):
+                    self.assertIn(called(node.exc), own, (path, node.lineno))
+
+    def test_texts(self):
+        for path in files():
+            for node in nodes(path):
+                if isinstance(node, ast.Constant) and isinstance(node.value, str):
+                    self.assertNotIn("%", node.value, (path, node.lineno))
+                if isinstance(node, ast.FormattedValue):
+                    self.assertIsInstance(node.value, ast.Name, (path, node.lineno))
+                    self.assertIsNone(node.format_spec, (path, node.lineno))
 
     def test_no_decorators(self):
         for path in files():
